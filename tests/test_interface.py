@@ -1,0 +1,98 @@
+"""[0.1] and the interface: each name is there, in its file, with its arguments."""
+
+import importlib
+import inspect
+import unittest
+
+from tests.helping import BOOK, RIG, Strict, random_books
+from waryrig.books import made_book
+from waryrig.free import barring, free, with_bar, without_bar
+from waryrig.lots import agreeing, all_faults, done, one_sign, parted, remedies_for
+from waryrig.regions import region, way
+from waryrig.rigs import made_rig, neighbours
+
+INTERFACE = """
+    rigs made_rig thing
+    rigs is_rig thing
+    rigs neighbours rig g
+    lots all_faults rig
+    lots remedies_for rig lot
+    lots done rig lot
+    lots agreeing rig lot x settings
+    lots one_sign rig lot g
+    lots parted rig lot g
+    books made_book thing
+    books is_book thing
+    free free book lot move
+    free barring book lot move
+    free with_bar book move lot
+    free without_bar book move lot
+    regions region book lot g
+    regions way book lot g h
+""".strip().split("\n")
+
+
+def plain(thing):
+    """Tell whether a value is built from tuples, numbers, bools and None alone."""
+    if type(thing) is tuple:
+        return all(plain(part) for part in thing)
+    return thing is None or type(thing) in (int, bool)
+
+
+class Interface(Strict):
+
+    def test_names_and_arguments(self):
+        for line in INTERFACE:
+            file, name, *arguments = line.split()
+            with self.subTest(line):
+                call = getattr(importlib.import_module("waryrig." + file), name)
+                self.assertTrue(inspect.isfunction(call))
+                self.assertEqual(call.__module__, "waryrig." + file)
+                told = inspect.signature(call).parameters.values()
+                self.assertEqual([one.name for one in told], arguments)
+                for one in told:
+                    self.assertIs(one.kind, inspect.Parameter.POSITIONAL_OR_KEYWORD)
+                    self.assertIs(one.default, inspect.Parameter.empty)
+
+
+class Returned(Strict):
+
+    def test_by_position_or_by_name(self):
+        calls = (
+            (agreeing, (RIG, (0, 1, 2), 1, (2,)), ("rig", "lot", "x", "settings")),
+            (parted, (RIG, (0, 2), 1), ("rig", "lot", "g")),
+            (with_bar, (BOOK, 0, (1, 2)), ("book", "move", "lot")),
+            (barring, (BOOK, (0, 2), 1), ("book", "lot", "move")),
+            (way, (BOOK, (0, 1), 1, 2), ("book", "lot", "g", "h")),
+        )
+        for call, given, names in calls:
+            self.same(call(**dict(zip(names, given))), call(*given))
+
+    def test_several_things_are_a_tuple(self):
+        for book in random_books(20, 11):
+            rig, bars = book
+            lot = all_faults(rig)
+            found = [
+                made_rig(rig), made_book(book), neighbours(rig, 0), lot, remedies_for(rig, lot),
+                agreeing(rig, lot, 0, (0,)), parted(rig, lot, 0), region(book, lot, 0),
+                way(book, lot, 0, 0),
+            ]
+            for move, lots in enumerate(bars):
+                found += [without_bar(book, move, one) for one in lots]
+                if (0,) not in lots:
+                    found.append(with_bar(book, move, (0,)))
+            for thing in found:
+                self.assertIs(type(thing), tuple)
+                self.assertTrue(plain(thing))
+
+    def test_yes_and_no_are_bools(self):
+        for book in random_books(20, 12):
+            lot = all_faults(book[0])
+            self.assertIs(type(done(book[0], lot)), bool)
+            self.assertIs(type(one_sign(book[0], lot, 0)), bool)
+            for move in range(len(book[1])):
+                self.assertIs(type(free(book, lot, move)), bool)
+
+
+if __name__ == "__main__":
+    unittest.main()

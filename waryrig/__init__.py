@@ -1,0 +1,1 @@
+"""Waryrig: faults told apart where looking can do harm."""
