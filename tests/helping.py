@@ -29,6 +29,61 @@ NO_RIGS = (((), (-1,)), (None, (-1,)), ((0,) + RIG[1:], (0,)), (RIG[:4] + (((0, 
 NOT_BELOW_THREE = NO_NUMBERS + (3, -1, 4, 10 ** 30, -10 ** 30)
 NOT_BELOW_TWO = NOT_BELOW_THREE + (2,)
 
+# What is no start in the rig above.
+NO_STARTS = NO_TUPLES + (
+    (), ((0,),), ((0,), 0, 0), (0, (0,)), (0, 0), ((), 0), ((), 9), ((0,), 3), ((0,), -1),
+    ((0,), True), ((0,), False), ((0,), None), ((0,), "0"), ((0,), (0,)), ((0, 1, 2), 10 ** 30),
+    "ab", ((0,), ()), (((0,),), 0),
+) + tuple((lot, 0) for lot in NO_LOTS)
+# What is no walk in the rig above, and what is told of it.
+NO_WALKS = tuple((thing, -1) for thing in NO_TUPLES) + (
+    ((), -1), ((0, 1) * 1000 + (0,), -1), ((0,) * 2001, -1), ((9,) * 2001, -1),
+    ((1,), 0), ((2, 0, 1), 0), ((3,), 0), ((-1,), 0), ((False,), 0), ((None,), 0), (("0",), 0),
+    (((0,),), 0), (((),), 0), ((True, 0), 0),
+    ((0, 3), 1), ((0, -1), 1), ((0, True), 1), ((0, 1, False), 2), ((0, None), 1), ((0, "1"), 1),
+    ((0, (1,)), 1), ((0, 10 ** 30), 1),
+    ((0, 0), 1), ((0, 1, 1), 2), ((0, 2, 0, 0), 3),
+    ((0, 1, 2), 2), ((0, 2, 1), 2), ((0, 1, 0, 2, 1, 0), 4), ((0, 1) * 999 + (0, 0), 1999),
+    ((0, 0, 9), 1), ((0, 1, 2, 9), 2),
+)
+# The code of the example in [21].
+CODE = (
+    ("cure", (), 0), ("cure", (), 1), ("look", (0, 2), ((0, 0), (1, 1))), ("cure", (), 2),
+    ("look", (1,), ((0, 2), (1, 3))),
+)
+CURE = ("cure", (), 0)
+# What is no row behind one other in a code for the rig above.
+NO_ROWS = NO_TUPLES + (
+    (), ("cure",), ("cure", ()), ("cure", (), 0, 0), ("look", ()), ("look", (), ((0, 0),), 0),
+    ("other", (), 0), ("other", (), ((0, 0),)), ("", (), 0), (None, (), 0), (0, (), 0),
+    ((), (), 0), ("Cure", (), 0), (True, (), ((0, 0),)), ("cur", (), 0), "abc",
+    ("cure", (), 3), ("cure", (), -1), ("cure", (), True), ("cure", (), False), ("cure", (), None),
+    ("cure", (), "0"), ("cure", (), ()), ("cure", (), ((0, 0),)), ("look", (), 0),
+    ("cure", None, 0), ("cure", 0, 0), ("cure", "", 0), ("cure", (3,), 0), ("cure", (0, -1), 0),
+    ("cure", (True,), 0), ("cure", (0, False), 0), ("cure", (None,), 0), ("cure", ("0",), 0),
+    ("cure", ((0,),), 0), ("cure", (0,) * 2001, 0), ("cure", (9,) * 2001, 0),
+    ("look", None, ((0, 0),)), ("look", (3,), ((0, 0),)), ("look", (False,), ((0, 0),)),
+    ("look", (0,) * 2001, ((0, 0),)),
+    ("look", (), None), ("look", (), ()), ("look", (), "ab"), ("look", (), (0, 0)),
+    ("look", (), (None,)), ("look", (), ((),)), ("look", (), ((0,),)), ("look", (), ((0, 0, 0),)),
+    ("look", (), ((0, 0), (1,))), ("look", (), ("ab",)),
+    ("look", (), ((10, 0),)), ("look", (), ((-1, 0),)), ("look", (), ((True, 0),)),
+    ("look", (), ((False, 0),)), ("look", (), ((None, 0),)), ("look", (), (("0", 0),)),
+    ("look", (), ((0, 0), (10, 0))), ("look", (), ((0, 0), (True, 0))),
+    ("look", (), ((0, 0), (0, 0))), ("look", (), ((1, 0), (0, 0))),
+    ("look", (), ((0, 0), (2, 0), (1, 0))),
+    ("look", (), tuple((sign, 0) for sign in range(11))),
+    ("look", (), ((0, 1),)), ("look", (), ((0, 2),)), ("look", (), ((0, -1),)),
+    ("look", (), ((0, False),)), ("look", (), ((0, True),)), ("look", (), ((0, None),)),
+    ("look", (), ((0, "0"),)), ("look", (), ((0, 0), (1, 1))), ("look", (), ((0, 0), (1, 9))),
+    ("look", (), ((0, (0,)),)),
+)
+# What is no code for the rig above, and what is told of it.
+NO_CODES = tuple((thing, -1) for thing in NO_TUPLES) + (
+    ((), -1), ((CURE,) * 2001, -1), ((None,) * 2001, -1), ((None,), 0), (CURE, 0),
+    (("look", (), ((0, 0),)), 0), ((("look", (), ((0, 0),)),), 0), ((CURE, None, None), 1),
+) + tuple(((CURE, row), 1) for row in NO_ROWS)
+
 
 def nested(deep):
     """Return tuples nested so deep."""
@@ -66,14 +121,17 @@ def many_lots(many):
     return tuple(sorted(lots[:many]))
 
 
-def random_book(chance):
-    """Return a small book, made from what random.Random tells."""
+def random_book(chance, odds=0.6):
+    """Return a small book, made from what random.Random tells.
+
+    The odds are those by which a remedy cures a fault.
+    """
     n = chance.randint(1, 5)
     settings = chance.randint(1, 7)
     pairs = list(itertools.combinations(range(settings), 2))
     moves = tuple(sorted(chance.sample(pairs, chance.randint(0, min(len(pairs), 10)))))
     signs = tuple(tuple(chance.randint(0, 2) for _ in range(n)) for _ in range(settings))
-    cures = tuple(random_lot(chance, 3) for _ in range(n))
+    cures = tuple(random_lot(chance, 3, odds) for _ in range(n))
     lots = [lot for size in (1, 2, 3) for lot in itertools.combinations(range(n), size)]
     bars = tuple(
         tuple(sorted(chance.sample(lots, chance.randint(0, min(2, len(lots)))))) for _ in moves
@@ -81,15 +139,25 @@ def random_book(chance):
     return ((n, 3, cures, signs, moves), bars)
 
 
-def random_books(many, seed):
+def random_books(many, seed, odds=0.6):
     """Return so many small books, the same ones each time."""
     chance = random.Random(seed)
-    return [random_book(chance) for _ in range(many)]
+    return [random_book(chance, odds) for _ in range(many)]
 
 
-def random_lot(chance, n):
+def random_starts(many, seed, odds=0.6):
+    """Return so many pairs of a small book and a start in it, the same ones each time."""
+    chance = random.Random(seed)
+    found = []
+    for book in random_books(many, seed + 1, odds):
+        n = book[0][0]
+        found.append((book, (chance.choice(lots_of(n)[1:]), chance.randrange(len(book[0][3])))))
+    return found
+
+
+def random_lot(chance, n, odds=0.6):
     """Return a lot of some of n faults, perhaps of none."""
-    return tuple(x for x in range(n) if chance.random() < 0.6)
+    return tuple(x for x in range(n) if chance.random() < odds)
 
 
 def lots_of(n):

@@ -4,12 +4,19 @@ import importlib
 import inspect
 import unittest
 
-from tests.helping import BOOK, RIG, Strict, random_books
+from tests.helping import BOOK, CODE, RIG, Strict, random_books
 from waryrig.books import made_book
+from waryrig.codes import code_right, made_code, run_code
+from waryrig.ends import end, end_from, home, made_start, parting
 from waryrig.free import barring, free, with_bar, without_bar
+from waryrig.kernel import stuck_right
 from waryrig.lots import agreeing, all_faults, done, one_sign, parted, remedies_for
+from waryrig.papers import stuck
 from waryrig.regions import region, way
 from waryrig.rigs import made_rig, neighbours
+from waryrig.rounds import round_walk
+from waryrig.solver import code_for, solvable
+from waryrig.walks import first_barred, made_walk, safe, seen
 
 INTERFACE = """
     rigs made_rig thing
@@ -29,14 +36,36 @@ INTERFACE = """
     free without_bar book move lot
     regions region book lot g
     regions way book lot g h
+    walks made_walk rig thing
+    walks is_walk rig thing
+    walks seen rig x walk
+    walks first_barred book x walk
+    walks safe book x walk
+    ends home rig
+    ends made_start rig thing
+    ends end_from book start x
+    ends end book x
+    ends parting book
+    codes made_code rig thing
+    codes is_code rig thing
+    codes run_code book code start x
+    codes code_right book code start
+    solver code_for book start
+    solver solvable book
+    papers stuck book start
+    kernel stuck_right book start lot
+    kernel chain_right book chain
+    kernel loss_right book paper
+    kernel dark_right book r paper
+    rounds round_walk book lot
 """.strip().split("\n")
 
 
 def plain(thing):
-    """Tell whether a value is built from tuples, numbers, bools and None alone."""
+    """Tell whether a value is built from tuples, texts, numbers, bools and None alone."""
     if type(thing) is tuple:
         return all(plain(part) for part in thing)
-    return thing is None or type(thing) in (int, bool)
+    return thing is None or type(thing) in (int, bool, str)
 
 
 class Interface(Strict):
@@ -64,6 +93,9 @@ class Returned(Strict):
             (with_bar, (BOOK, 0, (1, 2)), ("book", "move", "lot")),
             (barring, (BOOK, (0, 2), 1), ("book", "lot", "move")),
             (way, (BOOK, (0, 1), 1, 2), ("book", "lot", "g", "h")),
+            (first_barred, (BOOK, 2, (0, 1, 0, 2)), ("book", "x", "walk")),
+            (end_from, (BOOK, ((0, 1), 0), 1), ("book", "start", "x")),
+            (run_code, (BOOK, CODE, ((0, 1), 0), 1), ("book", "code", "start", "x")),
         )
         for call, given, names in calls:
             self.same(call(**dict(zip(names, given))), call(*given))
@@ -81,6 +113,13 @@ class Returned(Strict):
                 found += [without_bar(book, move, one) for one in lots]
                 if (0,) not in lots:
                     found.append(with_bar(book, move, (0,)))
+            found += [
+                home(rig), made_start(rig, home(rig)), made_walk(rig, (0,)), seen(rig, 0, (0,)),
+                end(book, 0), end_from(book, home(rig), 0), parting(book), round_walk(book, lot),
+                code_for(book, home(rig)) or stuck(book, home(rig)),
+                run_code(book, made_code(rig, (("cure", (0,), 0),)), home(rig), 0),
+            ]
+            found += [first_barred(book, 0, (0, h)) or () for h, _ in neighbours(rig, 0)]
             for thing in found:
                 self.assertIs(type(thing), tuple)
                 self.assertTrue(plain(thing))
@@ -90,6 +129,10 @@ class Returned(Strict):
             lot = all_faults(book[0])
             self.assertIs(type(done(book[0], lot)), bool)
             self.assertIs(type(one_sign(book[0], lot, 0)), bool)
+            self.assertIs(type(solvable(book)), bool)
+            self.assertIs(type(safe(book, 0, (0,))), bool)
+            self.assertIs(type(code_right(book, (("cure", (), 0),), home(book[0]))), bool)
+            self.assertIs(type(stuck_right(book, home(book[0]), lot)), bool)
             for move in range(len(book[1])):
                 self.assertIs(type(free(book, lot, move)), bool)
 

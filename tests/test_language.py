@@ -1,6 +1,7 @@
 """How the package is written, as far as a plain look at its files can tell."""
 
 import ast
+import builtins
 import pathlib
 import unittest
 
@@ -55,8 +56,45 @@ class Language(unittest.TestCase):
                     own = (PACKAGE / (node.module.split(".")[1] + ".py")).read_text()
                     for alias in node.names:
                         self.assertIsNone(alias.asname)
-                        defined = ("def %s(", "class %s(", "\n%s = ")
+                        defined = ("def %s(", "class %s(", "class %s:", "\n%s = ")
                         self.assertTrue([1 for form in defined if form % alias.name in own])
+
+    def test_no_two_files_import_from_each_other(self):
+        imports = {}
+        for file, tree in trees():
+            nodes = [node for node in ast.walk(tree) if isinstance(node, ast.ImportFrom)]
+            imports[file.stem] = {node.module.split(".")[1] for node in nodes}
+        while imports:
+            last = [name for name in imports if not imports[name] & set(imports)]
+            self.assertTrue(last, imports)
+            for name in last:
+                del imports[name]
+
+    def test_local_names_are_no_imports_and_no_builtins(self):
+        for file, tree in trees():
+            nodes = list(ast.walk(tree))
+            taken = set(dir(builtins))
+            for node in nodes:
+                if isinstance(node, ast.ImportFrom):
+                    taken |= {alias.name for alias in node.names}
+                if isinstance(node, ast.ClassDef):
+                    taken.add(node.name)
+            for node in nodes:
+                if isinstance(node, ast.arg):
+                    self.assertNotIn(node.arg, taken, file)
+                if isinstance(node, ast.Name) and isinstance(node.ctx, ast.Store):
+                    self.assertNotIn(node.id, taken, file)
+                if isinstance(node, ast.FunctionDef):
+                    self.assertNotIn(node.name, taken, file)
+
+    def test_is_stands_beside_none_alone(self):
+        for file, tree in trees():
+            for node in ast.walk(tree):
+                if isinstance(node, ast.Compare):
+                    for sign, other in zip(node.ops, node.comparators):
+                        if isinstance(sign, (ast.Is, ast.IsNot)):
+                            self.assertTrue(isinstance(other, ast.Constant), file)
+                            self.assertIsNone(other.value, file)
 
     def test_names_and_strings(self):
         for file, tree in trees():

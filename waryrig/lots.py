@@ -20,6 +20,11 @@ def check_rig_and_lot(rig, lot):
 def all_faults(rig):
     """Return the lot of all faults."""
     made_rig(rig)
+    return every_fault(rig)
+
+
+def every_fault(rig):
+    """Do what all_faults does, of what is checked already."""
     return tuple(range(rig[FAULTS]))
 
 
@@ -71,7 +76,7 @@ def one_sign(rig, lot, g):
     """Return whether all faults of the lot agree at g."""
     check_rig_and_lot(rig, lot)
     check_setting(rig, g)
-    return len(parts_at(rig, lot, g)) < 2
+    return not has_parts(rig, lot, g)
 
 
 def parted(rig, lot, g):
@@ -88,3 +93,17 @@ def parts_at(rig, lot, g):
     for x in lot:
         shown.setdefault(row[x], []).append(x)
     return tuple([(sign, tuple(shown[sign])) for sign in sorted(shown)])
+
+
+def has_parts(rig, lot, g):
+    """Tell whether the setting parts the lot."""
+    return len(parts_at(rig, lot, g)) > 1
+
+
+def alike_at(rig, lot, settings):
+    """Return lists of the faults of the lot that agree at all of the settings."""
+    shown = {}
+    for x in lot:
+        signs = tuple([rig[SIGNS][g][x] for g in settings])
+        shown.setdefault(signs, []).append(x)
+    return list(shown.values())

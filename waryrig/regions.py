@@ -11,6 +11,11 @@ def region(book, lot, g):
     rig, _ = made_book(book)
     check_lot(rig, lot)
     check_setting(rig, g)
+    return region_at(book, lot, g)
+
+
+def region_at(book, lot, g):
+    """Do what region does, of what is checked already."""
     return tuple(sorted(distances(joined_by_free(book, lot), g)))
 
 

@@ -10,6 +10,8 @@ CURES = 2
 SIGNS = 3
 MOVES = 4
 
+HOME = 0
+
 MOST_FAULTS = 24
 MOST_REMEDIES = 16
 MOST_SETTINGS = 40
@@ -113,3 +115,12 @@ def neighbours(rig, g):
             found.append((low, move))
     # As the moves ascend, lesser settings are met first, and all in order.
     return tuple(found)
+
+
+def moves_by_ends(rig):
+    """Return a dict of the moves by the pairs of their settings, both ways round."""
+    found = {}
+    for move, (low, high) in enumerate(rig[MOVES]):
+        found[(low, high)] = move
+        found[(high, low)] = move
+    return found
