@@ -4,6 +4,8 @@ import itertools
 import random
 import unittest
 
+from waryrig.errors import BadBook, BadFault, BadRig
+
 CURES = ((0,), (1,), (2,))
 SIGNS = ((0, 0, 0), (0, 0, 1), (0, 1, 0))
 MOVES = ((0, 1), (0, 2))
@@ -24,6 +26,13 @@ NO_LOTS = NO_TUPLES + (
 )
 # What is no rig, and the place that is told of it.
 NO_RIGS = (((), (-1,)), (None, (-1,)), ((0,) + RIG[1:], (0,)), (RIG[:4] + (((0, 3),),), (4, 0)))
+# What is no book, and the error that is raised of it.
+WRONG_BOOKS = (
+    (None, BadBook, -1), ((), BadBook, -1), (RIG, BadBook, -1), (BOOK + ((),), BadBook, -1),
+    ((RIG, ()), BadBook, -2), ((RIG, ((), ((2,),), ())), BadBook, -2), ((RIG, None), BadBook, -2),
+    ((RIG, ((), None)), BadBook, 1), ((RIG, (((),), ())), BadBook, 0),
+    ((RIG, ((), ((True,),))), BadBook, 1), ((RIG, ((), ((2,), (0,)))), BadBook, 1),
+) + tuple(((thing, ((), ())), BadRig, where) for thing, where in NO_RIGS)
 # What is no fault, setting or move of the rig above: it has three of the
 # first two, and two of the last.
 NOT_BELOW_THREE = NO_NUMBERS + (3, -1, 4, 10 ** 30, -10 ** 30)
@@ -45,6 +54,15 @@ NO_WALKS = tuple((thing, -1) for thing in NO_TUPLES) + (
     ((0, 0), 1), ((0, 1, 1), 2), ((0, 2, 0, 0), 3),
     ((0, 1, 2), 2), ((0, 2, 1), 2), ((0, 1, 0, 2, 1, 0), 4), ((0, 1) * 999 + (0, 0), 1999),
     ((0, 0, 9), 1), ((0, 1, 2, 9), 2),
+)
+# The program of the example in [35].
+PROGRAM = (("go", 1), ("if", ("sign", 1), (("cure", 2),), (
+    ("go", 0), ("go", 2), ("if", ("sign", 1), (("cure", 1),), (("cure", 0),)))))
+# What is no program of the rig above, and what is told of it.
+NO_PROGRAMS = tuple((thing, (-1,)) for thing in NO_TUPLES) + (
+    ((("cure", 0),) * 201, (-1,)), ((None,) * 201, (-1,)), ((None,), (0,)), (("go", 1), (0,)),
+    ((("go", 1), ("go", 3)), (1,)), ((("cure", 3),), (0,)),
+    ((("times", 2, (("go", 0), ("if", ("flag", 8), (), ()))),), (0, 0, 1)),
 )
 # The code of the example in [21].
 CODE = (
@@ -121,6 +139,29 @@ def many_lots(many):
     return tuple(sorted(lots[:many]))
 
 
+def longest_book():
+    """Return a book with as many of all as are let, in which trips tell little each time.
+
+    The trip of each number comes to the setting of this number as well, and rules
+    out the greatest fault that is left.
+    """
+    pairs = list(itertools.combinations(range(24), 2))[:100]
+    moves = tuple(pairs + list(itertools.combinations(range(24, 40), 2))[:100])
+    signs = tuple((0,) * (24 - g) + (1,) + (0,) * (g - 1) for g in range(1, 24))
+    signs = ((0,) * 24,) + signs + tuple((x,) * 24 for x in range(10)) + ((0,) * 24,) * 6
+    triples = list(itertools.combinations(range(24), 3))
+    bars = []
+    for _, g in moves:
+        if 1 < g < 24:
+            lots = [(25 - g,)] + [lot for lot in triples if 25 - g in lot]
+            bars.append(tuple(sorted(lots[:200])))
+        elif g == 1:
+            bars.append(())
+        else:
+            bars.append(many_lots(200))
+    return ((24, 16, tuple((x % 16,) for x in range(24)), signs, moves), tuple(bars))
+
+
 def random_book(chance, odds=0.6):
     """Return a small book, made from what random.Random tells.
 
@@ -165,6 +206,86 @@ def lots_of(n):
     return [lot for size in range(n + 1) for lot in itertools.combinations(range(n), size)]
 
 
+def plainly_joined(tree):
+    """Join the tree as [19] says."""
+    if tree[0] == "cure":
+        return tree
+    below = [(sign, plainly_joined(one)) for sign, one in tree[2]]
+    first = below[0][1]
+    if all(one == first for _, one in below):
+        return [first[0], tree[1] + first[1], first[2]]
+    return ["look", tree[1], below]
+
+
+def plainly_flat(tree, rows):
+    """Put the tree to the rows as [20] says, and return its number."""
+    kind, steps, rest = tree
+    if kind == "look":
+        rest = tuple((sign, plainly_flat(one, rows)) for sign, one in rest)
+    if (kind, steps, rest) not in rows:
+        rows.append((kind, steps, rest))
+    return rows.index((kind, steps, rest))
+
+
+def some_way(chance, rig, here):
+    """Return a way that mostly goes where moves lead."""
+    steps = ()
+    for _ in range(chance.randint(0, 3)):
+        near = [there for pair in rig[4] for there in pair if here in pair and there != here]
+        if chance.random() < 0.1 or not near:
+            near = range(len(rig[3]))
+        here = chance.choice(near)
+        steps += (here,)
+    return steps
+
+
+def some_code(chance, rig):
+    """Return a code for the rig, whatever it does."""
+    rows = []
+    for number in range(chance.randint(1, 6)):
+        steps = some_way(chance, rig, chance.choice((0, 0, chance.randrange(len(rig[3])))))
+        signs = random_lot(chance, 3) or (0,)
+        branches = tuple((sign, chance.randrange(number or 1)) for sign in signs)
+        if number == 0 or chance.random() < 0.4:
+            rows.append(("cure", steps, chance.randrange(rig[1])))
+        else:
+            rows.append(("look", steps, branches))
+    return tuple(rows)
+
+
+def some_test(chance, deep):
+    """Return a T that is at most so deep."""
+    kind = chance.choice(("sign", "flag", "not", "and", "or"))
+    if deep == 1 or kind in ("sign", "flag"):
+        return chance.choice((("sign", chance.randint(0, 2)), ("flag", chance.randint(0, 2))))
+    parts = 1 if kind == "not" else 2
+    return (kind,) + tuple(some_test(chance, deep - 1) for _ in range(parts))
+
+
+def some_body(chance, rig, deep, here=0):
+    """Return a body that lies so deep, and mostly goes where moves lead."""
+    statements = []
+    for _ in range(chance.randint(0, 4)):
+        kind = chance.choice(("go", "go", "go", "go", "set", "if", "if", "times", "cure"))
+        if kind == "go":
+            near = [there for pair in rig[4] for there in pair if here in pair and there != here]
+            if chance.random() < 0.05 or not near:
+                near = range(len(rig[3]))
+            here = chance.choice(near)
+            statements.append(("go", here))
+        elif kind == "set":
+            statements.append(("set", chance.randint(0, 2), chance.randint(0, 1)))
+        elif kind == "if" and deep < 4:
+            bodies = (some_body(chance, rig, deep + 1, here), some_body(chance, rig, deep + 1, here))
+            statements.append(("if", some_test(chance, 4)) + bodies)
+        elif kind == "times" and deep < 4:
+            body = some_body(chance, rig, deep + 1, here)
+            statements.append(("times", chance.randint(1, 3), body))
+        elif chance.random() < 0.4:
+            statements.append(("cure", chance.randrange(rig[1])))
+    return tuple(statements)
+
+
 class Strict(unittest.TestCase):
     """Compares so that True and 1, or a tuple and a list, are not the same."""
 
@@ -176,3 +297,13 @@ class Strict(unittest.TestCase):
             call(*given, **named)
         self.assertIs(type(caught.exception), kind)
         self.same(caught.exception.what, what)
+
+    def refuses_wrong_books(self, call, *behind):
+        """See that the call refuses what is no book, whatever stands behind it."""
+        for thing, kind, what in WRONG_BOOKS:
+            self.refused(kind, what, call, thing, *behind)
+
+    def refuses_wrong_faults(self, call, ahead, behind=()):
+        """See that the call refuses what is no fault of the sample rig, likewise."""
+        for x in NOT_BELOW_THREE:
+            self.refused(BadFault, x, call, *ahead, x, *behind)

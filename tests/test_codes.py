@@ -5,7 +5,7 @@ import unittest
 
 from tests.helping import (
     ANYTHING, BOOK, CODE, CURE, CURES, MOVES, NOT_BELOW_THREE, NO_CODES, NO_RIGS, NO_ROWS,
-    NO_STARTS, RIG, SIGNS, Strict, lots_of, random_lot, random_starts, replaced,
+    NO_STARTS, RIG, SIGNS, Strict, lots_of, random_starts, replaced, some_code,
 )
 from waryrig.codes import code_right, is_code, made_code, run_code
 from waryrig.ends import home
@@ -44,32 +44,6 @@ def plain_run(book, code, start, x):
         if sign not in dict(row[2]):
             return (walk, ("nosign", sign))
         row = code[dict(row[2])[sign]]
-
-
-def some_way(chance, rig, here):
-    """Return a way that mostly goes where moves lead."""
-    steps = ()
-    for _ in range(chance.randint(0, 3)):
-        near = [there for there, _ in neighbours(rig, here)]
-        if chance.random() < 0.1 or not near:
-            near = range(len(rig[3]))
-        here = chance.choice(near)
-        steps += (here,)
-    return steps
-
-
-def some_code(chance, rig):
-    """Return a code for the rig, whatever it does."""
-    rows = []
-    for number in range(chance.randint(1, 6)):
-        steps = some_way(chance, rig, chance.choice((0, 0, chance.randrange(len(rig[3])))))
-        signs = random_lot(chance, 3) or (0,)
-        branches = tuple((sign, chance.randrange(number or 1)) for sign in signs)
-        if number == 0 or chance.random() < 0.4:
-            rows.append(("cure", steps, chance.randrange(rig[1])))
-        else:
-            rows.append(("look", steps, branches))
-    return tuple(rows)
 
 
 class Codes(Strict):

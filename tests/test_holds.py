@@ -1,4 +1,4 @@
-"""[57] lesser bars: no end's lot grows by them, and what was solvable stays so."""
+"""[57] lesser bars: no end's lot grows by them, nor do trips, and what was solvable stays so."""
 
 import itertools
 import unittest
@@ -8,6 +8,10 @@ from waryrig.books import is_book
 from waryrig.ends import end
 from waryrig.free import without_bar
 from waryrig.solver import solvable
+from waryrig.trips import trips
+
+# More trips than any number that is told; so many are needed where none are enough.
+NEVER = 1000
 
 
 def bars_less(book):
@@ -47,12 +51,19 @@ def last_fault_out(book):
     return [((n - 1, q, cures[:-1], tuple(row[:-1] for row in signs), moves), bars)]
 
 
+def trips_needed(book):
+    """Return a number that is greater for a book with which no trips do."""
+    many = trips(book)
+    return NEVER if many is None else many
+
+
 class LesserBars(Strict):
 
     def lessened(self, change, seed, many=200):
-        less = opened = 0
+        less = opened = sooner = 0
         for book in random_books(many, seed, 0.45):
             was = solvable(book)
+            needed = trips_needed(book)
             for other in change(book):
                 self.assertIs(is_book(other), True)
                 for x in range(other[0][0]):
@@ -62,6 +73,9 @@ class LesserBars(Strict):
                     less += len(behind) < len(before)
                 self.assertIs(was and not solvable(other), False)
                 opened += solvable(other) and not was
+                self.assertLessEqual(trips_needed(other), needed)
+                sooner += trips_needed(other) < needed < NEVER
+        self.assertGreater(sooner, 5)
         return less, opened
 
     def test_a_bar_less(self):

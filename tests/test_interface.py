@@ -4,18 +4,24 @@ import importlib
 import inspect
 import unittest
 
-from tests.helping import BOOK, CODE, RIG, Strict, random_books
+from tests.helping import BOOK, CODE, PROGRAM, RIG, Strict, random_books
 from waryrig.books import made_book
+from waryrig.chains import chain
+from waryrig.checker import right, same_program, verdict
 from waryrig.codes import code_right, made_code, run_code
+from waryrig.compiler import code_of, program_of
 from waryrig.ends import end, end_from, home, made_start, parting
 from waryrig.free import barring, free, with_bar, without_bar
-from waryrig.kernel import stuck_right
+from waryrig.kernel import chain_right, stuck_right
 from waryrig.lots import agreeing, all_faults, done, one_sign, parted, remedies_for
 from waryrig.papers import stuck
+from waryrig.programs import is_program, made_program
 from waryrig.regions import region, way
 from waryrig.rigs import made_rig, neighbours
 from waryrig.rounds import round_walk
+from waryrig.running import run
 from waryrig.solver import code_for, solvable
+from waryrig.trips import course, run_trips, trips
 from waryrig.walks import first_barred, made_walk, safe, seen
 
 INTERFACE = """
@@ -58,6 +64,18 @@ INTERFACE = """
     kernel loss_right book paper
     kernel dark_right book r paper
     rounds round_walk book lot
+    trips course book x
+    trips trips book
+    trips run_trips book x
+    chains chain book
+    programs made_program rig thing
+    programs is_program rig thing
+    running run book program x
+    checker verdict book program
+    checker right book program
+    checker same_program book one two
+    compiler code_of book program
+    compiler program_of rig code
 """.strip().split("\n")
 
 
@@ -96,6 +114,11 @@ class Returned(Strict):
             (first_barred, (BOOK, 2, (0, 1, 0, 2)), ("book", "x", "walk")),
             (end_from, (BOOK, ((0, 1), 0), 1), ("book", "start", "x")),
             (run_code, (BOOK, CODE, ((0, 1), 0), 1), ("book", "code", "start", "x")),
+            (course, (BOOK, 1), ("book", "x")),
+            (run_trips, (BOOK, 1), ("book", "x")),
+            (run, (BOOK, PROGRAM, 2), ("book", "program", "x")),
+            (same_program, (BOOK, PROGRAM, ()), ("book", "one", "two")),
+            (program_of, (RIG, CODE), ("rig", "code")),
         )
         for call, given, names in calls:
             self.same(call(**dict(zip(names, given))), call(*given))
@@ -120,6 +143,11 @@ class Returned(Strict):
                 run_code(book, made_code(rig, (("cure", (0,), 0),)), home(rig), 0),
             ]
             found += [first_barred(book, 0, (0, h)) or () for h, _ in neighbours(rig, 0)]
+            program = made_program(rig, (("times", 2, (("set", 0, 1),)), ("cure", 0)))
+            found += [
+                course(book, 0), chain(book) or (), run_trips(book, 0), run(book, program, 0),
+                verdict(book, program) or code_of(book, program), program_of(rig, (("cure", (0,), 0),)),
+            ]
             for thing in found:
                 self.assertIs(type(thing), tuple)
                 self.assertTrue(plain(thing))
@@ -133,6 +161,11 @@ class Returned(Strict):
             self.assertIs(type(safe(book, 0, (0,))), bool)
             self.assertIs(type(code_right(book, (("cure", (), 0),), home(book[0]))), bool)
             self.assertIs(type(stuck_right(book, home(book[0]), lot)), bool)
+            self.assertIs(type(chain_right(book, (lot,))), bool)
+            self.assertIs(type(is_program(book[0], ())), bool)
+            self.assertIs(type(right(book, (("cure", 0),))), bool)
+            self.assertIs(type(same_program(book, (), (("cure", 0),))), bool)
+            self.assertNotIsInstance(trips(book), bool)
             for move in range(len(book[1])):
                 self.assertIs(type(free(book, lot, move)), bool)
 

@@ -4,7 +4,7 @@ import unittest
 
 from tests.helping import (
     BOOK, CODE, CURE, CURES, NO_RIGS, NO_STARTS, RIG, Strict, greatest_rig, many_lots,
-    random_books, random_starts, replaced,
+    plainly_flat, plainly_joined, random_books, random_starts, replaced,
 )
 from waryrig.codes import code_right, is_code, run_code
 from waryrig.ends import end_from, home
@@ -41,27 +41,6 @@ def plain_tree(book, lot, g, begin=True):
     if None in [tree for _, tree in below]:
         return None
     return ["look", steps[1:], below]
-
-
-def plainly_joined(tree):
-    """Join the tree as [19] says."""
-    if tree[0] == "cure":
-        return tree
-    below = [(sign, plainly_joined(one)) for sign, one in tree[2]]
-    first = below[0][1]
-    if all(one == first for _, one in below):
-        return [first[0], tree[1] + first[1], first[2]]
-    return ["look", tree[1], below]
-
-
-def plainly_flat(tree, rows):
-    """Put the tree to the rows as [20] says, and return its number."""
-    kind, steps, rest = tree
-    if kind == "look":
-        rest = tuple((sign, plainly_flat(one, rows)) for sign, one in rest)
-    if (kind, steps, rest) not in rows:
-        rows.append((kind, steps, rest))
-    return rows.index((kind, steps, rest))
 
 
 def plain_code(book, start):

@@ -3,6 +3,7 @@
 from waryrig.books import made_book
 from waryrig.errors import BadFault, BadStart
 from waryrig.forms import is_ascending, is_index, is_number, is_tuple_of
+from waryrig.ground import Ground
 from waryrig.lots import agreeing_at, alike_at, every_fault, parts_at
 from waryrig.regions import region_at
 from waryrig.rigs import FAULTS, HOME, SIGNS, check_fault, made_rig
@@ -73,12 +74,15 @@ def end(book, x):
 def parting(book):
     """Return the unlike lots of the ends of all faults, from home."""
     rig, _ = made_book(book)
-    return lots_of_ends(book, from_home(rig))
+    return lots_of_ends(rig, Ground(book), from_home(rig))
 
 
-def lots_of_ends(book, start):
-    """Return the unlike lots of the ends from a start, by their least faults."""
-    rig, _ = book
+def lots_of_ends(rig, ground, start):
+    """Return the unlike lots of the ends from a start, by their least faults.
+
+    What is shown is asked of the rig, what is free of the ground, so that one
+    ground serves all rigs that show something else with the same bars.
+    """
     lot, g = start
     found = []
     # Faults that agree so far have the same region, so each lot is asked once for
@@ -86,7 +90,7 @@ def lots_of_ends(book, start):
     waiting = [part for _, part in parts_at(rig, lot, g)]
     while waiting:
         known = waiting.pop()
-        parts = alike_at(rig, known, region_at(book, known, g))
+        parts = alike_at(rig, known, ground.region(known, g))
         if len(parts) == 1:
             found.append(known)
         else:

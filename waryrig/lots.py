@@ -42,6 +42,14 @@ def common_remedies(rig, lot):
     return tuple(common)
 
 
+def least_remedy(rig, lot):
+    """Return the least remedy that cures each fault of the lot, None if none does."""
+    common = common_remedies(rig, lot)
+    if not common:
+        return None
+    return common[0]
+
+
 def done(rig, lot):
     """Return whether one remedy cures each fault of the lot."""
     check_rig_and_lot(rig, lot)

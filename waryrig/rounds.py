@@ -10,7 +10,11 @@ def round_walk(book, lot):
     """Return the walk from home and home again through the region of the lot."""
     rig, _ = made_book(book)
     check_lot(rig, lot)
-    joined = joined_by_free(book, lot)
+    return round_through(joined_by_free(book, lot))
+
+
+def round_through(joined):
+    """Return the round through settings that are joined as these lists tell."""
     back = {HOME: None}
     steps = []
     here = HOME
