@@ -4,7 +4,14 @@ import itertools
 import random
 import unittest
 
+from waryrig.checker import right
+from waryrig.compiler import code_of
+from waryrig.ends import home
 from waryrig.errors import BadBook, BadFault, BadRig
+from waryrig.free import free
+from waryrig.lots import agreeing, all_faults
+from waryrig.rigs import neighbours
+from waryrig.solver import code_for
 
 CURES = ((0,), (1,), (2,))
 SIGNS = ((0, 0, 0), (0, 0, 1), (0, 1, 0))
@@ -14,6 +21,8 @@ MOVES = ((0, 1), (0, 2))
 RIG = (3, 3, CURES, SIGNS, MOVES)
 BARS = ((), ((2,),))
 BOOK = (RIG, BARS)
+# The second book of [45].
+LOST = ((2, 2, ((0,), (1,)), ((0, 0), (0, 1), (0, 0)), ((0, 1), (0, 2))), ((), ((0, 1),)))
 
 # What is none of the numbers that are due anywhere.
 NO_NUMBERS = (True, False, None, "0", (), (0,))
@@ -54,6 +63,18 @@ NO_WALKS = tuple((thing, -1) for thing in NO_TUPLES) + (
     ((0, 0), 1), ((0, 1, 1), 2), ((0, 2, 0, 0), 3),
     ((0, 1, 2), 2), ((0, 2, 1), 2), ((0, 1, 0, 2, 1, 0), 4), ((0, 1) * 999 + (0, 0), 1999),
     ((0, 0, 9), 1), ((0, 1, 2, 9), 2),
+)
+# What is no entry of a journal and no look in the rig above.
+NO_ENTRIES = NO_TUPLES + (
+    (), (0,), (0, 0, 0), ((0, 0),), ((), ()), (3, 0), (-1, 0), (0, 10), (0, -1), (10 ** 30, 0),
+    (0, 10 ** 30), (True, 0), (False, 0), (0, True), (0, False), (None, 0), (0, None), ("0", 0),
+    (0, "0"), ((0,), 0), (0, (0,)), ("see", 0), (0, ()),
+)
+# What are no cuts, and what is told of them.
+NO_CUTS = tuple((thing, -1) for thing in NO_TUPLES) + (
+    ((0,) * 21, -1), ((None,) * 21, -1), ((-1,), 0), ((5001,), 0), ((True,), 0), ((False,), 0),
+    ((None,), 0), (("0",), 0), (((0,),), 0), (((),), 0), ((0, 5000, 5001), 2), ((3, True), 1),
+    ((0,) * 19 + (-1,), 19), ((10 ** 30, -1), 0),
 )
 # The program of the example in [35].
 PROGRAM = (("go", 1), ("if", ("sign", 1), (("cure", 2),), (
@@ -284,6 +305,73 @@ def some_body(chance, rig, deep, here=0):
         elif chance.random() < 0.4:
             statements.append(("cure", chance.randrange(rig[1])))
     return tuple(statements)
+
+
+def right_codes(chance, book):
+    """Return some codes that are right from home: the told one, and those of some programs."""
+    codes = [code_for(book, home(book[0]))]
+    for _ in range(4):
+        program = some_body(chance, book[0], 1) + (("cure", chance.randrange(book[0][1])),)
+        if right(book, program):
+            codes.append(code_of(book, program))
+    return [code for code in codes if code is not None]
+
+
+def deeds_of(rig, code, here, x):
+    """Go through the deeds of a run of a code that is right."""
+    row = code[-1]
+    yield ("see", here, rig[3][here][x])
+    while True:
+        for here in row[1]:
+            yield ("go", here)
+            yield ("see", here, rig[3][here][x])
+        if row[0] == "cure":
+            yield row[::2]
+            return
+        row = code[dict(row[2])[rig[3][here][x]]]
+
+
+def plain_cut(book, code, x, cuts, go_on):
+    """Reckon a run with cuts as its words say, deed by deed.
+
+    Behind a cut go_on tells the start from the setting and the journal, and the
+    journal that is left. Of each go the moment is told, too: the walk and the
+    journal ahead of it.
+    """
+    walk, journal, gone = (0,), (), []
+    cuts = list(cuts)
+    while True:
+        cut = cuts.pop(0) if cuts else None
+        for done, deed in enumerate(deeds_of(book[0], code, walk[-1], x)):
+            if done == cut:
+                break
+            if deed[0] == "see":
+                journal += (deed[1:],)
+            elif deed[0] == "go":
+                gone.append((walk, journal, deed[1]))
+                walk += deed[1:]
+            else:
+                return (walk, deed[1], journal), gone
+        start, journal = go_on(walk[-1], journal)
+        code = code_for(book, start)
+        if code is None:
+            return (walk, None, journal), gone
+
+
+def reached(book, x):
+    """Return all pairs of a setting and a knowledge to which walks that are safe under x come."""
+    rig = book[0]
+    first = (0, agreeing(rig, all_faults(rig), x, (0,)))
+    found = {first}
+    edge = [first]
+    while edge:
+        here, known = edge.pop()
+        for there, move in neighbours(rig, here):
+            state = (there, agreeing(rig, known, x, (there,)))
+            if free(book, known, move) and state not in found:
+                found.add(state)
+                edge.append(state)
+    return found
 
 
 class Strict(unittest.TestCase):

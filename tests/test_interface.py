@@ -8,12 +8,18 @@ from tests.helping import BOOK, CODE, PROGRAM, RIG, Strict, random_books
 from waryrig.books import made_book
 from waryrig.chains import chain
 from waryrig.checker import right, same_program, verdict
+from waryrig.closings import closing, open_walk, open_walk_right, open_with
 from waryrig.codes import code_right, made_code, run_code
 from waryrig.compiler import code_of, program_of
+from waryrig.dark import dark_paper, darkened, run_dark, strength
 from waryrig.ends import end, end_from, home, made_start, parting
+from waryrig.erring import alive, run_erring
 from waryrig.free import barring, free, with_bar, without_bar
+from waryrig.journal import left
 from waryrig.kernel import chain_right, stuck_right
+from waryrig.lost import bears, loss_paper, lost_at, run_lost, safe_way
 from waryrig.lots import agreeing, all_faults, done, one_sign, parted, remedies_for
+from waryrig.machine import run_cut
 from waryrig.papers import stuck
 from waryrig.programs import is_program, made_program
 from waryrig.regions import region, way
@@ -21,6 +27,7 @@ from waryrig.rigs import made_rig, neighbours
 from waryrig.rounds import round_walk
 from waryrig.running import run
 from waryrig.solver import code_for, solvable
+from waryrig.table import alike, fullest, implies, table, telling
 from waryrig.trips import course, run_trips, trips
 from waryrig.walks import first_barred, made_walk, safe, seen
 
@@ -76,6 +83,28 @@ INTERFACE = """
     checker same_program book one two
     compiler code_of book program
     compiler program_of rig code
+    journal left rig lot journal
+    machine run_cut book code x cuts
+    lost lost_at book g
+    lost bears book
+    lost safe_way book x g
+    lost loss_paper book
+    lost run_lost book code x cuts
+    erring alive rig e looks
+    erring run_erring book e x lies
+    dark darkened book settings
+    dark dark_paper book r
+    dark strength book
+    dark run_dark book settings x
+    closings closing book lot
+    closings open_with book move lot
+    closings open_walk book move lot
+    closings open_walk_right book move lot walk
+    table table book
+    table fullest book
+    table implies one two
+    table alike one two
+    table telling one two
 """.strip().split("\n")
 
 
@@ -119,6 +148,17 @@ class Returned(Strict):
             (run, (BOOK, PROGRAM, 2), ("book", "program", "x")),
             (same_program, (BOOK, PROGRAM, ()), ("book", "one", "two")),
             (program_of, (RIG, CODE), ("rig", "code")),
+            (left, (RIG, (0, 1, 2), ((1, 0),)), ("rig", "lot", "journal")),
+            (run_cut, (BOOK, CODE, 0, (3,)), ("book", "code", "x", "cuts")),
+            (safe_way, (BOOK, 0, 2), ("book", "x", "g")),
+            (run_lost, (BOOK, CODE, 0, (3,)), ("book", "code", "x", "cuts")),
+            (alive, (RIG, 1, ((1, 1),) * 2), ("rig", "e", "looks")),
+            (run_erring, (BOOK, 2, 1, ((3, 1),)), ("book", "e", "x", "lies")),
+            (dark_paper, (BOOK, 1), ("book", "r")),
+            (run_dark, (BOOK, (2,), 0), ("book", "settings", "x")),
+            (open_walk, (BOOK, 1, (0, 1)), ("book", "move", "lot")),
+            (open_walk_right, (BOOK, 1, (0, 1), (0, 1, 0)), ("book", "move", "lot", "walk")),
+            (telling, ((RIG, ((), ())), BOOK), ("one", "two")),
         )
         for call, given, names in calls:
             self.same(call(**dict(zip(names, given))), call(*given))
@@ -148,6 +188,17 @@ class Returned(Strict):
                 course(book, 0), chain(book) or (), run_trips(book, 0), run(book, program, 0),
                 verdict(book, program) or code_of(book, program), program_of(rig, (("cure", (0,), 0),)),
             ]
+            found += [
+                left(rig, lot, ((0, 1),)), lost_at(book, 0), safe_way(book, 0, 0),
+                loss_paper(book) or (), alive(rig, 1, ((0, 1),)), darkened(book, (0,)),
+                dark_paper(book, 1) or (), run_dark(book, (0,), 0), closing(book, (0,)),
+                table(book), fullest(book), telling((rig, ((),) * len(bars)), book) or (),
+            ]
+            found += [open_walk(book, move, (0,)) or () for move in range(len(bars))]
+            if solvable(book):
+                code = code_for(book, home(rig))
+                found += [run_cut(book, code, 0, (1,)), run_lost(book, code, 0, (1,)),
+                          run_erring(book, 1, 0, ((0, 9),))]
             for thing in found:
                 self.assertIs(type(thing), tuple)
                 self.assertTrue(plain(thing))
@@ -166,8 +217,14 @@ class Returned(Strict):
             self.assertIs(type(right(book, (("cure", 0),))), bool)
             self.assertIs(type(same_program(book, (), (("cure", 0),))), bool)
             self.assertNotIsInstance(trips(book), bool)
+            self.assertIs(type(bears(book)), bool)
+            self.assertIs(type(strength(book)), int)
+            self.assertIs(type(implies(book, book)), bool)
+            self.assertIs(type(alike(book, book)), bool)
             for move in range(len(book[1])):
                 self.assertIs(type(free(book, lot, move)), bool)
+                self.assertIs(type(open_with(book, move, lot)), bool)
+                self.assertIs(type(open_walk_right(book, move, lot, (0,))), bool)
 
 
 if __name__ == "__main__":

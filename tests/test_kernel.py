@@ -7,7 +7,7 @@ import itertools
 import unittest
 
 from tests.helping import (
-    ANYTHING, BOOK, MOVES, NO_LOTS, NO_NUMBERS, NO_RIGS, NO_TUPLES, NO_WALKS, RIG, Strict,
+    ANYTHING, BOOK, LOST, MOVES, NO_LOTS, NO_NUMBERS, NO_RIGS, NO_TUPLES, NO_WALKS, RIG, Strict,
     greatest_rig, lots_of, many_lots, random_books, replaced,
 )
 from waryrig.ends import home
@@ -20,8 +20,7 @@ from waryrig.walks import is_walk, safe
 NO_BOOKS = (None, 0, (), RIG, (RIG,), (RIG, ()), (RIG, ((), None)), (RIG, ((), ((),))),
             BOOK + ((),)) + tuple((thing, ((), ())) for thing, _ in NO_RIGS)
 
-# The second book of [45], and its paper.
-LOST = ((2, 2, ((0,), (1,)), ((0, 0), (0, 1), (0, 0)), ((0, 1), (0, 2))), ((), ((0, 1),)))
+# The paper of the second book of [45].
 WALK = (0, 1, 0, 2)
 PAPER = (2, (0, 1), (WALK, WALK))
 

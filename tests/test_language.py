@@ -12,6 +12,8 @@ BARRED_WORDS = {
     "TYPE_CHECKING", "abstractmethod", "register", "mro", "elements", "open", "input", "law",
     "print", "eval", "exec", "super", "vars", "globals", "id", "dir", "float", "complex",
 }
+# What may be imported from outside of the package, as far as it is used here.
+LIBRARY = {"itertools": ("combinations",)}
 BARRED_NODES = (
     ast.Global, ast.AsyncFunctionDef, ast.Await, ast.AsyncFor, ast.AsyncWith, ast.Div, ast.Import,
 )
@@ -51,7 +53,11 @@ class Language(unittest.TestCase):
         for file, tree in trees():
             for node in ast.walk(tree):
                 self.assertNotIsInstance(node, BARRED_NODES, file)
-                if isinstance(node, ast.ImportFrom):
+                if isinstance(node, ast.ImportFrom) and node.module in LIBRARY:
+                    for alias in node.names:
+                        self.assertIsNone(alias.asname)
+                        self.assertIn(alias.name, LIBRARY[node.module])
+                elif isinstance(node, ast.ImportFrom):
                     self.assertRegex(node.module, "^waryrig[.]", file)
                     own = (PACKAGE / (node.module.split(".")[1] + ".py")).read_text()
                     for alias in node.names:
@@ -63,7 +69,8 @@ class Language(unittest.TestCase):
         imports = {}
         for file, tree in trees():
             nodes = [node for node in ast.walk(tree) if isinstance(node, ast.ImportFrom)]
-            imports[file.stem] = {node.module.split(".")[1] for node in nodes}
+            own = [node.module for node in nodes if node.module not in LIBRARY]
+            imports[file.stem] = {module.split(".")[1] for module in own}
         while imports:
             last = [name for name in imports if not imports[name] & set(imports)]
             self.assertTrue(last, imports)

@@ -129,6 +129,12 @@ def code_right(book, code, start):
         check_start(rig, start)
     except Refused:
         return False
+    return cures_all(book, code, start)
+
+
+def cures_all(book, code, start):
+    """Do what code_right does, of what is checked already."""
+    rig, _ = book
     for x in start[0]:
         _, last = run_rows(book, code, start, x)
         if last[0] != "cure" or last[1] not in rig[CURES][x]:

@@ -83,10 +83,18 @@ class Runner:
         """Do the body of a times as often as it says."""
         _, many, body = statement
         for _ in range(many):
+            before = self.all_that_counts()
             last = self.do_body(body, (*place, 0))
             if last is not None:
                 return last
+            # It would do the same each further time: nothing.
+            if self.all_that_counts() == before:
+                return None
         return None
+
+    def all_that_counts(self):
+        """Return what all that is still to be done hangs on."""
+        return len(self.walker.steps), list(self.flags)
 
     def holds(self, test):
         """Tell whether the T holds here and now."""
