@@ -32,13 +32,14 @@ WRONG_TESTS = NO_TUPLES + (
     ("and", SIGN, SIGN, SIGN), ("or", SIGN, SIGN, SIGN), ("sign", 10), ("flag", 8), ("Sign", 0),
     (None, 0), ((), 0), ("", 0), ("no", SIGN), (("sign", 0),), ("not", 0), ("not", None),
     ("not", ("sign", 10)), ("not", ()), ("and", ("sign", 10), SIGN), ("and", SIGN, ("sign", 10)),
+    ("xor", SIGN, SIGN), ("", SIGN, SIGN), (None, SIGN, SIGN), ("sign", SIGN, SIGN),
     ("or", ("flag", 8), SIGN), ("or", SIGN, ("flag", 8)), ("and", SIGN, None), ("or", None, SIGN),
 ) + tuple((kind, number) for kind in ("sign", "flag") for number in NO_INDEX)
 WRONG_STATEMENTS = NO_TUPLES + (
     (), ("go",), ("cure",), ("set",), ("set", 0), ("if",), ("if", SIGN), ("if", SIGN, ()),
     ("times",), ("times", 1), ("go", 0, 0), ("cure", 0, 0), ("set", 0, 0, 0),
     ("if", SIGN, (), (), ()), ("times", 1, (), ()), ("times", 1, (), (), ()), ("other", 0),
-    ("other", 0, 0), ("Go", 0), (None, 0), (0, 0), ((), 0), ("", 0), ("look", (), 0), ("goto", 0),
+    ("other", 0, 0), ("other", 1, ()), ("other", SIGN, (), ()), (None, 1, ()), ("Go", 0), (None, 0), (0, 0), ((), 0), ("", 0), ("look", (), 0), ("goto", 0),
     ("go", 3), ("cure", 3), ("set", 8, 0), ("set", 0, 2), ("set", 0, -1), ("times", 0, ()),
     ("times", 10, ()), ("times", 1, None), ("times", 1, 0), ("times", 1, ""), ("times", 1, "abc"),
     ("times", 1, (GO,) * 201), ("if", SIGN, None, ()), ("if", SIGN, (), None), ("if", SIGN, 0, ()),
