@@ -7,7 +7,7 @@ import unittest
 from waryrig.checker import right
 from waryrig.compiler import code_of
 from waryrig.ends import home
-from waryrig.errors import BadBook, BadFault, BadRig
+from waryrig.errors import BadBook, BadFault, BadNamed, BadRig
 from waryrig.free import free
 from waryrig.lots import agreeing, all_faults
 from waryrig.rigs import neighbours
@@ -122,6 +122,21 @@ NO_CODES = tuple((thing, -1) for thing in NO_TUPLES) + (
     ((), -1), ((CURE,) * 2001, -1), ((None,) * 2001, -1), ((None,), 0), (CURE, 0),
     (("look", (), ((0, 0),)), 0), ((("look", (), ((0, 0),)),), 0), ((CURE, None, None), 1),
 ) + tuple(((CURE, row), 1) for row in NO_ROWS)
+
+# The named rig of the example in [65].
+NAMES = (("f", "w"), ("fuse", "wire"), ("home", "far"), ("no", "yes"))
+NAMED = ((2, 2, ((0,), (0, 1)), ((0, 0), (0, 1)), ((0, 1),)), NAMES)
+# What is no named rig, and the error that is raised of it.
+WRONG_NAMED = tuple((thing, BadNamed, -1) for thing in NO_TUPLES) + (
+    ((), BadNamed, -1), (NAMED[0], BadNamed, -1), (NAMED + ((),), BadNamed, -1),
+    ((NAMED[0], NAMES[:3]), BadNamed, -1), ((None, NAMES + ((),)), BadNamed, -1),
+    ((NAMED[0], None), BadNamed, -1), ((None, NAMES), BadRig, (-1,)),
+    (((0,) + NAMED[0][1:], (None,) * 4), BadRig, (0,)),
+    ((NAMED[0], (None,) * 4), BadNamed, 0), ((NAMED[0], (("f", "f"),) + (None,) * 3), BadNamed, 0),
+    ((NAMED[0], NAMES[:1] + ((),) * 3), BadNamed, 1),
+    ((NAMED[0], NAMES[:2] + (("home", "Far"), ("no",))), BadNamed, 2),
+    ((NAMED[0], NAMES[:3] + (("no",),)), BadNamed, 3),
+)
 
 
 def nested(deep):
@@ -389,6 +404,11 @@ class Strict(unittest.TestCase):
     def refuses_wrong_books(self, call, *behind):
         """See that the call refuses what is no book, whatever stands behind it."""
         for thing, kind, what in WRONG_BOOKS:
+            self.refused(kind, what, call, thing, *behind)
+
+    def refuses_wrong_named(self, call, *behind):
+        """See that the call refuses what is no named rig, whatever stands behind it."""
+        for thing, kind, what in WRONG_NAMED:
             self.refused(kind, what, call, thing, *behind)
 
     def refuses_wrong_faults(self, call, ahead, behind=()):

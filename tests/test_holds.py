@@ -1,12 +1,14 @@
 """[57] lesser bars: no end's lot grows by them, nor do trips, and what was solvable stays so."""
 
 import itertools
+import random
 import unittest
 
 from tests.helping import Strict, lots_of, random_books, replaced
 from waryrig.books import is_book
 from waryrig.ends import end
 from waryrig.free import without_bar
+from waryrig.risks import least_risk, waived
 from waryrig.solver import solvable
 from waryrig.trips import trips
 
@@ -102,6 +104,31 @@ class LesserBars(Strict):
         for book in random_books(60, 85):
             free_of_bars = (book[0], ((),) * len(book[1]))
             self.assertIs(solvable(book) and not solvable(free_of_bars), False)
+
+    def test_more_that_is_waived(self):
+        opened = 0
+        chance = random.Random(86)
+        for book in random_books(400, 87, 0.45):
+            grades = tuple(tuple(chance.randint(1, 9) for _ in lots) for lots in book[1])
+            ahead = book
+            for g in range(10):
+                other = waived(book, grades, g)
+                self.assertIs(solvable(ahead) and not solvable(other), False)
+                self.assertLessEqual(trips_needed(other), trips_needed(ahead))
+                opened += solvable(other) and not solvable(ahead)
+                for x in range(book[0][0]):
+                    self.assertTrue(set(end(other, x)[0]) <= set(end(ahead, x)[0]))
+                ahead = other
+            risk = least_risk(book, grades)
+            self.assertIs(risk is None, not solvable(ahead))
+            # A bar that goes leaves no greater risk.
+            for move, lots in enumerate(book[1]):
+                for at, lot in enumerate(lots):
+                    row = grades[move][:at] + grades[move][at + 1:]
+                    less = least_risk(without_bar(book, move, lot), replaced(grades, move, row))
+                    self.assertIs(less is None, risk is None)
+                    self.assertTrue(risk is None or less <= risk)
+        self.assertGreater(opened, 5)
 
     def test_a_bar_of_each_lot_in_turn(self):
         # The more a bar names, the less it bars.

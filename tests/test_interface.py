@@ -4,7 +4,8 @@ import importlib
 import inspect
 import unittest
 
-from tests.helping import BOOK, CODE, PROGRAM, RIG, Strict, random_books
+from tests.helping import BOOK, CODE, NAMED, PROGRAM, RIG, Strict, random_books
+from waryrig.binding import binding
 from waryrig.books import made_book
 from waryrig.chains import chain
 from waryrig.checker import right, same_program, verdict
@@ -14,16 +15,21 @@ from waryrig.compiler import code_of, program_of
 from waryrig.dark import dark_paper, darkened, run_dark, strength
 from waryrig.ends import end, end_from, home, made_start, parting
 from waryrig.erring import alive, run_erring
+from waryrig.exchanges import exchanged, exchanges
 from waryrig.free import barring, free, with_bar, without_bar
 from waryrig.journal import left
 from waryrig.kernel import chain_right, stuck_right
 from waryrig.lost import bears, loss_paper, lost_at, run_lost, safe_way
 from waryrig.lots import agreeing, all_faults, done, one_sign, parted, remedies_for
 from waryrig.machine import run_cut
+from waryrig.names import is_name, is_named, made_named
+from waryrig.orders import count_orders, first_order, nth_order, number_of, order_right
 from waryrig.papers import stuck
 from waryrig.programs import is_program, made_program
+from waryrig.questions import always_out, can_make, must, out_first
 from waryrig.regions import region, way
 from waryrig.rigs import made_rig, neighbours
+from waryrig.risks import least_risk, made_grades, waived
 from waryrig.rounds import round_walk
 from waryrig.running import run
 from waryrig.solver import code_for, solvable
@@ -105,6 +111,24 @@ INTERFACE = """
     table implies one two
     table alike one two
     table telling one two
+    questions can_make book x move
+    questions always_out book x move y
+    questions must book x move
+    questions out_first book x y z
+    risks made_grades book thing
+    risks waived book grades g
+    risks least_risk book grades
+    binding binding book
+    orders order_right book x order
+    orders first_order book x
+    orders count_orders book x
+    orders nth_order book x k
+    orders number_of book x order
+    exchanges exchanged order i
+    exchanges exchanges book x one two
+    names is_name thing
+    names is_named thing
+    names made_named thing
 """.strip().split("\n")
 
 
@@ -159,11 +183,20 @@ class Returned(Strict):
             (open_walk, (BOOK, 1, (0, 1)), ("book", "move", "lot")),
             (open_walk_right, (BOOK, 1, (0, 1), (0, 1, 0)), ("book", "move", "lot", "walk")),
             (telling, ((RIG, ((), ())), BOOK), ("one", "two")),
+            (can_make, (BOOK, 1, 0), ("book", "x", "move")),
+            (always_out, (BOOK, 0, 1, 2), ("book", "x", "move", "y")),
+            (out_first, (BOOK, 0, 2, 1), ("book", "x", "y", "z")),
+            (waived, (BOOK, ((), (3,)), 2), ("book", "grades", "g")),
+            (nth_order, (BOOK, 1, 0), ("book", "x", "k")),
+            (number_of, (BOOK, 1, (0, 1, 2)), ("book", "x", "order")),
+            (exchanged, ((0, 1, 2), 1), ("order", "i")),
+            (exchanges, (BOOK, 0, (0, 1, 2), (0, 1, 2)), ("book", "x", "one", "two")),
         )
         for call, given, names in calls:
             self.same(call(**dict(zip(names, given))), call(*given))
 
     def test_several_things_are_a_tuple(self):
+        self.assertIs(made_named(NAMED), NAMED)
         for book in random_books(20, 11):
             rig, bars = book
             lot = all_faults(rig)
@@ -195,6 +228,12 @@ class Returned(Strict):
                 table(book), fullest(book), telling((rig, ((),) * len(bars)), book) or (),
             ]
             found += [open_walk(book, move, (0,)) or () for move in range(len(bars))]
+            grades = tuple((5,) * len(lots) for lots in bars)
+            order = first_order(book, 0)
+            found += [
+                made_grades(book, grades), waived(book, grades, 4), binding(book) or (), order,
+                nth_order(book, 0, 0), exchanges(book, 0, order, order), exchanged((0, 1), 0),
+            ]
             if solvable(book):
                 code = code_for(book, home(rig))
                 found += [run_cut(book, code, 0, (1,)), run_lost(book, code, 0, (1,)),
@@ -216,12 +255,25 @@ class Returned(Strict):
             self.assertIs(type(is_program(book[0], ())), bool)
             self.assertIs(type(right(book, (("cure", 0),))), bool)
             self.assertIs(type(same_program(book, (), (("cure", 0),))), bool)
+            self.assertIs(type(is_name("a")), bool)
+            self.assertIs(type(is_named((book[0], ()))), bool)
             self.assertNotIsInstance(trips(book), bool)
             self.assertIs(type(bears(book)), bool)
             self.assertIs(type(strength(book)), int)
             self.assertIs(type(implies(book, book)), bool)
             self.assertIs(type(alike(book, book)), bool)
+            self.assertIs(type(order_right(book, 0, (0,))), bool)
+            self.assertIs(type(count_orders(book, 0)), int)
+            self.assertIs(type(number_of(book, 0, first_order(book, 0))), int)
+            grades = tuple((5,) * len(lots) for lots in book[1])
+            self.assertNotIsInstance(least_risk(book, grades), bool)
+            if len(lot) > 2:
+                self.assertIs(type(out_first(book, 0, 1, 2)), bool)
             for move in range(len(book[1])):
+                self.assertIs(type(can_make(book, 0, move)), bool)
+                self.assertIs(type(must(book, 0, move)), bool)
+                if len(lot) > 1:
+                    self.assertIs(type(always_out(book, 0, move, 1)), bool)
                 self.assertIs(type(free(book, lot, move)), bool)
                 self.assertIs(type(open_with(book, move, lot)), bool)
                 self.assertIs(type(open_walk_right(book, move, lot, (0,))), bool)

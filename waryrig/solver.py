@@ -25,7 +25,13 @@ def told_code(ground, start):
 
 def solvable(book):
     """Return whether a code is told from home."""
-    rig, _ = made_book(book)
+    made_book(book)
+    return has_code(book)
+
+
+def has_code(book):
+    """Do what solvable does, of what is checked already."""
+    rig, _ = book
     return tree_at(Ground(book), from_home(rig)) is not None
 
 
