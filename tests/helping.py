@@ -137,6 +137,10 @@ WRONG_NAMED = tuple((thing, BadNamed, -1) for thing in NO_TUPLES) + (
     ((NAMED[0], NAMES[:2] + (("home", "Far"), ("no",))), BadNamed, 2),
     ((NAMED[0], NAMES[:3] + (("no",),)), BadNamed, 3),
 )
+# The text of that rig.
+RIG_TEXT = (
+    "signs no yes; remedies fuse wire; fault f: fuse; fault w: fuse wire; "
+    "setting home: no no; setting far: no yes; move home - far;")
 
 
 def nested(deep):
@@ -320,6 +324,33 @@ def some_body(chance, rig, deep, here=0):
         elif chance.random() < 0.4:
             statements.append(("cure", chance.randrange(rig[1])))
     return tuple(statements)
+
+
+def greatest_named():
+    """Return the greatest rig with names that are as long as can be, and alike in all sorts."""
+    rig = greatest_rig()
+    names = tuple("abcdefghij%02d" % number for number in range(40))
+    return rig, (names[:24], names[:16], names, names[:10])
+
+
+def some_names(chance, many):
+    """Return so many unlike names."""
+    found = []
+    while len(found) < many:
+        name = chance.choice("abcxyz") + "".join(
+            chance.choice("abz019") for _ in range(chance.choice((0, 1, 2, 11))))
+        if name not in found:
+            found.append(name)
+    return tuple(found)
+
+
+def some_named(chance, odds=0.6):
+    """Return a small named rig, and a book of its rig."""
+    book = random_book(chance, odds)
+    n, q, _, signs, _ = book[0]
+    least = max(max(row) for row in signs) + 1
+    sizes = (n, q, len(signs), chance.randint(least, 4))
+    return (book[0], tuple(some_names(chance, many) for many in sizes)), book
 
 
 def right_codes(chance, book):

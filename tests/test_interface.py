@@ -4,7 +4,7 @@ import importlib
 import inspect
 import unittest
 
-from tests.helping import BOOK, CODE, NAMED, PROGRAM, RIG, Strict, random_books
+from tests.helping import BOOK, CODE, NAMED, PROGRAM, RIG, RIG_TEXT, Strict, random_books
 from waryrig.binding import binding
 from waryrig.books import made_book
 from waryrig.chains import chain
@@ -13,6 +13,7 @@ from waryrig.closings import closing, open_walk, open_walk_right, open_with
 from waryrig.codes import code_right, made_code, run_code
 from waryrig.compiler import code_of, program_of
 from waryrig.dark import dark_paper, darkened, run_dark, strength
+from waryrig.desk import Desk
 from waryrig.ends import end, end_from, home, made_start, parting
 from waryrig.erring import alive, run_erring
 from waryrig.exchanges import exchanged, exchanges
@@ -20,13 +21,19 @@ from waryrig.free import barring, free, with_bar, without_bar
 from waryrig.journal import left
 from waryrig.kernel import chain_right, stuck_right
 from waryrig.lost import bears, loss_paper, lost_at, run_lost, safe_way
+from waryrig.live import Live
 from waryrig.lots import agreeing, all_faults, done, one_sign, parted, remedies_for
 from waryrig.machine import run_cut
 from waryrig.names import is_name, is_named, made_named
 from waryrig.orders import count_orders, first_order, nth_order, number_of, order_right
 from waryrig.papers import stuck
+from waryrig.printprogram import print_program
+from waryrig.printrig import print_rig
 from waryrig.programs import is_program, made_program
 from waryrig.questions import always_out, can_make, must, out_first
+from waryrig.readentries import print_bar, read_bar
+from waryrig.readprogram import read_program
+from waryrig.readrig import read_rig
 from waryrig.regions import region, way
 from waryrig.rigs import made_rig, neighbours
 from waryrig.risks import least_risk, made_grades, waived
@@ -129,6 +136,39 @@ INTERFACE = """
     names is_name thing
     names is_named thing
     names made_named thing
+    readrig read_rig text
+    printrig print_rig named
+    readprogram read_program named text
+    printprogram print_program named program
+    readentries read_bar named text
+    readentries print_bar named move lot
+""".strip().split("\n")
+# The classes: what each is made from, and its methods with what they are called with.
+CLASSES = """
+    live Live book
+    live Live.at
+    live Live.knowledge
+    live Live.sees sign
+    live Live.go g
+    live Live.moves
+    live Live.remedies
+    live Live.home_free
+    live Live.advice
+    live Live.log
+    live Live.rebook book
+    desk Desk named
+    desk Desk.say hand move lot
+    desk Desk.strike hand move lot
+    desk Desk.undo hand
+    desk Desk.redo hand
+    desk Desk.put word program
+    desk Desk.drop word
+    desk Desk.book
+    desk Desk.hands_of move lot
+    desk Desk.binds
+    desk Desk.opened hand
+    desk Desk.program word
+    desk Desk.row text
 """.strip().split("\n")
 
 
@@ -150,9 +190,28 @@ class Interface(Strict):
                 self.assertEqual(call.__module__, "waryrig." + file)
                 told = inspect.signature(call).parameters.values()
                 self.assertEqual([one.name for one in told], arguments)
-                for one in told:
-                    self.assertIs(one.kind, inspect.Parameter.POSITIONAL_OR_KEYWORD)
-                    self.assertIs(one.default, inspect.Parameter.empty)
+                self.plainly_told(told)
+
+    def test_classes_and_their_methods(self):
+        for line in CLASSES:
+            file, name, *arguments = line.split()
+            with self.subTest(line):
+                name, _, method = name.partition(".")
+                kind = getattr(importlib.import_module("waryrig." + file), name)
+                self.assertTrue(inspect.isclass(kind))
+                self.assertEqual(kind.__module__, "waryrig." + file)
+                # It stands in the class itself.
+                call = vars(kind)[method or "__init__"]
+                self.assertTrue(inspect.isfunction(call))
+                told = list(inspect.signature(call).parameters.values())[1:]
+                self.assertEqual([one.name for one in told], arguments)
+                self.plainly_told(told)
+
+    def plainly_told(self, told):
+        """See that all can be given by position and by name, and have to be."""
+        for one in told:
+            self.assertIs(one.kind, inspect.Parameter.POSITIONAL_OR_KEYWORD)
+            self.assertIs(one.default, inspect.Parameter.empty)
 
 
 class Returned(Strict):
@@ -191,12 +250,27 @@ class Returned(Strict):
             (number_of, (BOOK, 1, (0, 1, 2)), ("book", "x", "order")),
             (exchanged, ((0, 1, 2), 1), ("order", "i")),
             (exchanges, (BOOK, 0, (0, 1, 2), (0, 1, 2)), ("book", "x", "one", "two")),
+            (read_program, (NAMED, "go far"), ("named", "text")),
+            (print_program, (NAMED, (("go", 1),)), ("named", "program")),
+            (read_bar, (NAMED, "bar home - far while f"), ("named", "text")),
+            (print_bar, (NAMED, 0, (1,)), ("named", "move", "lot")),
         )
         for call, given, names in calls:
             self.same(call(**dict(zip(names, given))), call(*given))
 
     def test_several_things_are_a_tuple(self):
         self.assertIs(made_named(NAMED), NAMED)
+        for thing in (read_rig(RIG_TEXT), read_program(NAMED, "if yes { set 1 }"),
+                      read_bar(NAMED, "bar home - far while f and w")):
+            self.assertTrue(plain(thing))
+        live = Live(BOOK)
+        live.sees(0)
+        desk = Desk(NAMED)
+        desk.say("ann", 0, (0, 1))
+        for thing in (live.knowledge(), live.moves(), live.remedies(), live.advice(), live.log(),
+                      desk.book(), desk.hands_of(0, (0, 1)), desk.opened("ann")):
+            self.assertIs(type(thing), tuple)
+            self.assertTrue(plain(thing))
         for book in random_books(20, 11):
             rig, bars = book
             lot = all_faults(rig)
@@ -242,6 +316,20 @@ class Returned(Strict):
                 self.assertIs(type(thing), tuple)
                 self.assertTrue(plain(thing))
 
+    def test_texts_are_texts(self):
+        for thing in (print_rig(NAMED), print_program(NAMED, (("go", 1),)), print_bar(NAMED, 0, (0,)),
+                      Desk(NAMED).row("binds"), Desk(NAMED).row(None)):
+            self.assertIs(type(thing), str)
+
+    def test_nothing_is_returned_of_which_nothing_is_said(self):
+        live = Live(BOOK)
+        for found in (live.sees(0), live.go(1), live.rebook(BOOK)):
+            self.assertIsNone(found)
+        desk = Desk(NAMED)
+        for found in (desk.say("ann", 0, (0,)), desk.undo("ann"), desk.redo("ann"),
+                      desk.strike("ann", 0, (0,)), desk.put("p", ()), desk.drop("p")):
+            self.assertIsNone(found)
+
     def test_yes_and_no_are_bools(self):
         for book in random_books(20, 12):
             lot = all_faults(book[0])
@@ -255,6 +343,7 @@ class Returned(Strict):
             self.assertIs(type(is_program(book[0], ())), bool)
             self.assertIs(type(right(book, (("cure", 0),))), bool)
             self.assertIs(type(same_program(book, (), (("cure", 0),))), bool)
+            self.assertIs(type(Live(book).home_free()), bool)
             self.assertIs(type(is_name("a")), bool)
             self.assertIs(type(is_named((book[0], ()))), bool)
             self.assertNotIsInstance(trips(book), bool)

@@ -113,6 +113,32 @@ class Language(unittest.TestCase):
                         self.assertNotIsInstance(node.value, float)
                         self.assertNotIn("%", str(node.value))
 
+    def test_methods_and_attributes_have_unlike_names(self):
+        methods, attributes = set(), set()
+        for _, tree in trees():
+            for node in ast.walk(tree):
+                if isinstance(node, ast.ClassDef):
+                    methods |= {part.name for part in node.body if isinstance(part, ast.FunctionDef)}
+                elif isinstance(node, ast.Attribute) and isinstance(node.ctx, ast.Store):
+                    attributes.add(node.attr)
+        self.assertFalse(methods & attributes)
+        self.assertTrue({"say", "sees"} <= methods)
+
+    def test_names_of_classes_are_read_in_one_way(self):
+        for file, tree in trees():
+            for node in ast.walk(tree):
+                if isinstance(node, ast.Attribute):
+                    self.assertEqual(
+                        node.attr == "__name__",
+                        isinstance(node.value, ast.Attribute) and node.value.attr == "__class__", file)
+
+    def test_what_stands_at_module_level_is_plain(self):
+        for file, tree in trees():
+            for node in tree.body:
+                if isinstance(node, ast.Assign):
+                    ast.literal_eval(node.value)
+                    self.assertEqual(len(node.targets), 1, file)
+
     def test_nothing_runs_at_module_level(self):
         for file, tree in trees():
             for node in tree.body:

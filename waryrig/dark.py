@@ -90,7 +90,7 @@ class Finder:
 
     def __init__(self, book, settings, x):
         # In this book just those settings are dark of which it has been found out.
-        self.book = book
+        self.found_book = book
         self.ground = Ground(book)
         self.dark = settings
         self.x = x
@@ -102,11 +102,11 @@ class Finder:
         """Stand at the setting, and see its sign or that it is dark."""
         self.steps.append(g)
         if g in self.dark:
-            self.book = with_dark(self.book, (g,))
-        rig, _ = self.book
+            self.found_book = with_dark(self.found_book, (g,))
+        rig, _ = self.found_book
         self.lot = agreeing_at(rig, self.lot, self.x, (g,))
 
     def way_to_look(self):
         """Return the way to the nearest setting that may part what is possible, or None."""
-        rig, _ = self.book
+        rig, _ = self.found_book
         return way_to_part(rig, self.ground.joined(self.lot), self.lot, self.steps[-1])

@@ -6,6 +6,7 @@ class Refused(ValueError):
 
     def __init__(self, what):
         self.what = what
+        self.kind = self.__class__.__name__
 
 
 class BadRig(Refused):

@@ -46,7 +46,7 @@ class Machine:
     """Runs codes from home on, under a fault, and keeps what a cut leaves."""
 
     def __init__(self, book, x):
-        self.book = book
+        self.whole_book = book
         self.ground = Ground(book)
         self.x = x
         self.steps = [HOME]
@@ -68,7 +68,7 @@ class Machine:
 
     def do_deeds(self, code, start, cut):
         """Do what the code does from the start, but no more deeds than the cut says."""
-        steps, last = run_rows(self.book, code, start, self.x)
+        steps, last = run_rows(self.whole_book, code, start, self.x)
         # At each setting there is a see, and then a go to the next one or the cure.
         deeds = 2 * len(steps)
         if cut is None or cut >= deeds:

@@ -2,7 +2,7 @@
 
 from waryrig.errors import BadName, BadNamed, Refused
 from waryrig.forms import is_tuple_of
-from waryrig.rigs import FAULTS, GREATEST_SIGN, REMEDIES, SIGNS, made_rig
+from waryrig.rigs import FAULTS, REMEDIES, SIGNS, made_rig
 
 # The places of the four tuples in the names of a rig.
 OF_FAULTS = 0
@@ -11,7 +11,7 @@ OF_SETTINGS = 2
 OF_SIGNS = 3
 
 MOST_OF_NAME = 12
-MOST_SIGNS = GREATEST_SIGN + 1
+MOST_SIGNS = 10
 
 LETTERS = "abcdefghijklmnopqrstuvwxyz"
 FIGURES = "0123456789"

@@ -14,7 +14,7 @@ class Walker:
     def __init__(self, book, start, x):
         self.rig, self.bars = book
         self.x = x
-        self.moves = moves_by_ends(self.rig)
+        self.by_ends = moves_by_ends(self.rig)
         self.lot, self.here = start
         self.steps = []
         # Settings come to again show nothing new, and what is barred hangs on the
@@ -34,7 +34,7 @@ class Walker:
 
     def move_to(self, g):
         """Return the move that joins the setting with this one, or None."""
-        return self.moves.get((self.here, g))
+        return self.by_ends.get((self.here, g))
 
     def bar_of(self, move):
         """Return the first bar of the move that lies within the lot, or None."""
