@@ -75,6 +75,12 @@ class Texts(Strict):
                     due = (None, read(good)) if code == 32 else (BadText, 0)
                     self.same(found, due)
 
+    def test_each_sign_that_is_let_waits_for_its_turn(self):
+        for code in range(256):
+            due = 0 if 32 <= code <= 126 and code != 37 else 3
+            for read, _ in readers():
+                self.refused(BadText, due, read, "9a " + chr(code))
+
     def test_a_wrong_sign_ahead_of_wrong_words(self):
         for read, good in readers():
             for text in ("9a A " + good, good + " A", "signs signs", ""):
